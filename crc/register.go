@@ -67,17 +67,8 @@ func (r *register) feed(b byte) {
 // feedAll moves it on by all rows.
 func (r *register) feedAll(rows ...[]byte) {
 	move := r.feed
-	many := 0
-	for _, row := range rows {
-		many += len(row)
-	}
-feeding:
-	for b := range told(rows) {
-		if many == 0 {
-			break feeding
-		}
+	for b := range told(rows...) {
 		move(b)
-		many--
 	}
 }
 
@@ -85,7 +76,7 @@ feeding:
 func (r *register) sum() uint32 { return ^r.bits }
 
 // told tells the bytes of all rows, one behind the other.
-func told(rows [][]byte) iter.Seq[byte] {
+func told(rows ...[]byte) iter.Seq[byte] {
 	return func(yield func(byte) bool) {
 		for _, row := range rows {
 			for _, b := range row {
