@@ -82,6 +82,11 @@ func TestAlike(t *testing.T) {
 	if !canvas.Alike(a, b) || canvas.Alike(a, made(t, 1, 2).Show()) || canvas.Alike(a, made(t, 1, 1).Show()) || !canvas.Alike(api.Canvas{}, api.Canvas{Tiles: []api.Tile{}}) {
 		t.Errorf("Alike by sizes")
 	}
+	wide, high := a, a
+	wide.Wide, high.High = 3, 3
+	if canvas.Alike(a, wide) || canvas.Alike(a, high) || canvas.Alike(high, a) {
+		t.Errorf("Alike with one size that is another one")
+	}
 	b.Tiles[1][63] = red
 	if canvas.Alike(a, b) {
 		t.Errorf("Alike of others")

@@ -323,11 +323,18 @@ func TestState(t *testing.T) {
 	if third != id(10, 1, 3) {
 		t.Errorf("issued behind a promise: %v", third)
 	}
+	hear(t, c, api.Frame{Kind: api.FrState, Epoch: 2, Proposed: 9})
+	if x := c.Look(); x.Floor != 9 || x.FloorSeq != 2 {
+		t.Errorf("promised once more: %v", x.FloorSeq)
+	}
 	hear(t, c, api.Frame{Kind: api.FrState, Epoch: 2, Told: 12, By: of(2, 1)})
 	if x := c.Look(); x.Told != 12 || x.By != of(2, 1) || x.Log.Folded != 0 || x.Floor != 12 || x.FloorSeq != 3 {
 		t.Errorf("told, but not all is there: %v", x)
 	}
-	hear(t, c, api.Frame{Kind: api.FrState, Epoch: 2, Told: 11, By: of(1)})
+	for _, f := range []api.Frame{{Told: 11, By: of(1)}, {Told: 12, By: of(1)}} {
+		f.Kind, f.Epoch = api.FrState, 2
+		hear(t, c, f)
+	}
 	if x := c.Look(); x.Told != 12 || x.By != of(2, 1) {
 		t.Errorf("told of less: %v", x)
 	}

@@ -76,6 +76,8 @@ func TestCheckGood(t *testing.T) {
 		"chunk":            good()[2],
 		"the only chunk":   with(2, func(f *api.Frame) { f.Index, f.Many, f.Snap = 0, 1, 0 }),
 		"the greatest":     with(2, func(f *api.Frame) { f.Index, f.Many, f.Bytes = 63, 64, make([]byte, 256) }),
+		"a byte":           with(2, func(f *api.Frame) { f.Bytes, f.Many = []byte{0}, 4 }),
+		"one operation":    with(3, func(f *api.Frame) { f.Ops = f.Ops[:1] }),
 		"ops":              good()[3],
 		"ops of the server": with(3, func(f *api.Frame) {
 			f.Site, f.Ops = 0, []api.Op{rect(1, 2, 1), rect(1, 3, 1), rect(4, 1, 1), rect(5, 2, 9)}

@@ -88,6 +88,9 @@ func TestCheck(t *testing.T) {
 	good := api.Frontier{Folded: 5, By: of(1, most), Proposed: 6}
 	good.Sites[8] = api.Pledge{In: true, Floor: most, FloorSeq: most, Has: of(most)}
 	good.Sites[1] = api.Pledge{In: true, Floor: 5}
+	if frontier.Check(api.Frontier{Folded: most}) != api.OK || frontier.Check(api.Frontier{Proposed: most}) != api.OK {
+		t.Errorf("Check at MaxTime")
+	}
 	if frontier.Check(good) != api.OK {
 		t.Errorf("Check of a good one")
 	}

@@ -193,6 +193,9 @@ func TestReader(t *testing.T) {
 	if b := r.Bytes(0); len(b) != 0 || r.Err() != api.OK {
 		t.Errorf("Bytes(0): %v", b)
 	}
+	if r.End() != api.ErrMore {
+		t.Errorf("End with one byte left: %d", r.End())
+	}
 	if n := r.Number(1); n != 9 || r.End() != api.OK || r.Left() != 0 {
 		t.Errorf("the last: %d", n)
 	}

@@ -57,7 +57,7 @@ func TestTile(t *testing.T) {
 		}
 	}
 	for name, b := range map[string][]byte{
-		"nothing": nil, "short": {64, 0, 0, 0}, "two alike": {32, 0, 0, 0, 0, 32, 0, 0, 0, 0}, "too many": {65, 0, 0, 0, 0},
+		"two alike behind one pixel": {1, 0, 0, 0, 0, 63, 0, 0, 0, 0}, "nothing": nil, "short": {64, 0, 0, 0}, "two alike": {32, 0, 0, 0, 0, 32, 0, 0, 0, 0}, "too many": {65, 0, 0, 0, 0},
 		"none": {0, 0, 0, 0, 0, 64, 1, 0, 0, 0}, "too many together": {63, 0, 0, 0, 0, 2, 1, 1, 1, 1}, "too few": {63, 0, 0, 0, 0},
 		"none behind": {63, 0, 0, 0, 0, 0, 1, 1, 1, 1, 1, 2, 2, 2, 2}, "short behind": {63, 0, 0, 0, 0, 1, 1, 1, 1}, "all": {255, 0, 0, 0, 0},
 	} {
@@ -128,6 +128,14 @@ func TestPatch(t *testing.T) {
 	}
 	if got, e := runs.Patch(a, of(1, 2, a.Tiles...)); e != api.ErrArg || got != nil {
 		t.Errorf("Patch to other sizes: %d", e)
+	}
+	for _, c := range []api.Canvas{of(2, 2, make([]api.Tile, 4)...), of(1, 1, api.Tile{}), of(1, 2, a.Tiles...)} {
+		if got, e := runs.Patch(a, c); e != api.ErrArg || got != nil {
+			t.Errorf("Patch to %d by %d: %d", c.Wide, c.High, e)
+		}
+		if got, e := runs.Patch(c, a); e != api.ErrArg || got != nil {
+			t.Errorf("Patch from %d by %d: %d", c.Wide, c.High, e)
+		}
 	}
 	for _, c := range bad {
 		_, e := runs.Patch(c, a)

@@ -144,6 +144,17 @@ func TestPrintParse(t *testing.T) {
 	if s, at, f := script.Parse(text); e != api.OK || f != api.OK || at != 0 || !script.Same(s, fits) || len(text) > api.MaxText {
 		t.Errorf("Print, Parse of the longest: %d %d", e, f)
 	}
+	for i := len(fits.Events) - 1; left > 0; i-- { // take 0 has as many bytes as tick 0, take 1000 three more
+		more := min(left, 3)
+		fits.Events[i], left = api.Event{Kind: api.EvTake, N: []int{0, 10, 100, 1000}[more]}, left-more
+	}
+	if text, e := script.Print(fits); e != api.OK || len(text) != api.MaxText {
+		t.Errorf("Print of just as many bytes: %d %d", len(text), e)
+	}
+	fits.Events[0].Op.X = 100
+	if text, e := script.Print(fits); e != api.ErrLong || text != "" {
+		t.Errorf("Print of a few bytes more: %d %d", len(text), e)
+	}
 	if s, at, e := script.Parse(strings.Repeat("x", api.MaxText+1)); e != api.ErrLong || at != 0 || !script.Same(s, api.Script{}) {
 		t.Errorf("Parse of too long a text: %d %d", at, e)
 	}

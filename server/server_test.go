@@ -251,7 +251,13 @@ func TestTransfer(t *testing.T) {
 	}
 	hear(t, s, ops(1, 1, rect(9, 1, 9), rect(11, 1, 10)))
 	tick(t, s)
+	hear(t, s, join(3))
+	first := read(t, tick(t, s))[3]
 	s.Settle(0)
+	hear(t, s, join(3))
+	if again := read(t, tick(t, s))[3]; len(first) != 2 || len(again) != 2 || again[0].Proposed != 11 || !frame.Same(first[1], again[1]) {
+		t.Errorf("a transfer that was sent from becomes another one")
+	}
 	k := s.Kept()
 	want, _ := snap.Bytes(api.Snapshot{Canvas: k.Canvas, Folded: 8, Start: 11, Base: of(8)})
 	pieces, _ := snap.Cut(1, want)
@@ -343,7 +349,8 @@ func TestSave(t *testing.T) {
 	s := made(t)
 	hear(t, s, join(1))
 	tick(t, s)
-	for seq := uint64(1); seq <= 200; seq++ {
+	saves := 0
+	for seq := uint64(1); seq <= 100; seq++ {
 		was := s.Disk()
 		hear(t, s, ops(1, 1, rect(seq, 1, seq)))
 		size := disk.Size(s.Disk(), 2*disk.Head(was)+1)
@@ -355,11 +362,44 @@ func TestSave(t *testing.T) {
 		if got, _, e := store.Open(now); e != api.OK || !store.Same(got, s.Kept()) {
 			t.Fatalf("Open: %d", e)
 		}
-		if now.Head == 1 && seq < 60 {
-			return
+		if now.Head != was.Head {
+			saves++
 		}
 	}
-	t.Errorf("it never saves")
+	if saves < 3 {
+		t.Errorf("it saves %d times", saves)
+	}
+}
+
+// P27.4: with just SaveBytes bytes nothing is saved.
+func TestSaveBytes(t *testing.T) {
+	s := made(t)
+	hear(t, s, join(1))
+	tick(t, s)
+	seq := uint64(0)
+	issue := func(kind int) {
+		seq++
+		o := rect(seq, 1, seq)
+		if kind == api.OpUndo {
+			o = api.Op{Id: o.Id, Kind: kind, Target: a.Id}
+		}
+		hear(t, s, ops(1, 1, o))
+	}
+	for range 18 {
+		issue(api.OpRect)
+	}
+	for range 32 {
+		issue(api.OpUndo)
+	}
+	tick(t, s)
+	if d := s.Disk(); len(d.Files[1]) != api.SaveBytes || d.Head != 0 {
+		t.Errorf("with %d bytes it has saved: %d", len(d.Files[1]), d.Head)
+	}
+	issue(api.OpUndo)
+	tick(t, s)
+	if d := s.Disk(); d.Head != 1 || len(s.Kept().Log.Ops) != 51 {
+		t.Errorf("with more it has not saved")
+	}
 }
 
 // P27.3, P27.5
@@ -468,6 +508,15 @@ func TestNil(t *testing.T) {
 	turn := tick(t, s)
 	k, d := s.Kept(), s.Disk()
 	k.Log.Ops[0].Stamp.Pixels[0].R, k.Canvas.Tiles[0][0].R, d.Files[0][0], turn.Took[0].Stamp.Pixels[0].R = 7, 7, 7, 7
+	more := o
+	more.Id = id(2, 1, 2)
+	hear(t, s, ops(1, 1, more))
+	if w := s.Waits(); true {
+		w[0].Op.Stamp.Pixels[0].R = 7
+	}
+	if s.Waits()[0].Op.Stamp.Pixels[0].R != 5 {
+		t.Errorf("Waits shares memory")
+	}
 	if k := s.Kept(); k.Log.Ops[0].Stamp.Pixels[0].R != 5 || k.Canvas.Tiles[0][0].R != 0 || s.Disk().Files[0][0] == 7 {
 		t.Errorf("memory is shared")
 	}

@@ -58,7 +58,7 @@ var bad = []api.Stamp{{}, {Wide: 1, High: 1}, {Wide: 9, High: 1, Pixels: make([]
 
 // P9.1
 func TestNewOf(t *testing.T) {
-	for _, s := range [][2]int{{0, 1}, {1, 0}, {9, 1}, {1, 9}, {-1, -1}, {math.MaxInt, math.MaxInt}, {math.MinInt, 2}} {
+	for _, s := range [][2]int{{0, 1}, {1, 0}, {9, 1}, {1, 9}, {-1, -1}, {math.MaxInt, math.MaxInt}, {math.MinInt, 2}, {-1, 2}, {2, -1}, {0, 0}} {
 		if x, e := stamp.New(s[0], s[1], a); e != api.ErrArg || !stamp.Same(x, api.Stamp{}) {
 			t.Errorf("New(%v): %d", s, e)
 		}
@@ -95,6 +95,11 @@ func TestCheckSame(t *testing.T) {
 		}
 	}
 	x := of(t, 2, a, b, c, d)
+	wide, high := x, x
+	wide.Wide, high.High = 3, 3
+	if stamp.Same(x, wide) || stamp.Same(x, high) || stamp.Same(high, x) {
+		t.Errorf("Same with one size that is another one")
+	}
 	if !stamp.Same(x, of(t, 2, a, b, c, d)) || stamp.Same(x, of(t, 4, a, b, c, d)) || stamp.Same(x, of(t, 2, a, b, c, a)) || stamp.Same(x, of(t, 2, a, b)) || !stamp.Same(api.Stamp{}, api.Stamp{Pixels: []api.Color{}}) || !stamp.Same(bad[4], bad[4]) {
 		t.Errorf("Same")
 	}
@@ -191,6 +196,9 @@ func TestCut(t *testing.T) {
 		if want, _ := k.At(3+i%8, 2+i/8); p != want {
 			t.Errorf("Cut: the pixel %d", i)
 		}
+	}
+	if got, e := stamp.Cut(k, 0, 0, 8, 8); e != api.OK || len(got.Pixels) != 64 {
+		t.Errorf("Cut at 0 0: %d", e)
 	}
 	if got, e := stamp.Cut(k, 15, 7, 1, 1); e != api.OK || len(got.Pixels) != 1 {
 		t.Errorf("Cut of the last pixel: %d", e)

@@ -362,6 +362,9 @@ func TestRise(t *testing.T) {
 			t.Errorf("Rise behind a fuse of %d: %d %d", fuse, kept.Epoch, e)
 		}
 	}
+	if _, kept, e := store.Rise(d, api.MaxWaits); e != api.OK || kept.Epoch != 2 {
+		t.Errorf("Rise with the longest fuse: %d", e)
+	}
 	last := k
 	last.Epoch = most
 	late, _ := store.Save(d, last)

@@ -149,7 +149,10 @@ func TestExamples(t *testing.T) {
 	if len(w.Net().Parcels) != 2 || len(w.Notes()) != 0 {
 		t.Errorf("J T A S: %d, %v", len(w.Net().Parcels), w.Notes())
 	}
-	do(t, w, take(0), take(0))
+	if do(t, w, take(0)); len(w.Notes()) != 0 {
+		t.Errorf("then A: %v", w.Notes())
+	}
+	do(t, w, take(0))
 	if w.Seat(1).Phase != api.ClReady {
 		t.Errorf("then A A: %d", w.Seat(1).Phase)
 	}
@@ -316,6 +319,53 @@ func TestFallWriting(t *testing.T) {
 	check(t, w, from, append(want, api.Note{Kind: api.NtFall})...)
 	do(t, w, api.Event{Kind: api.EvFall, N: 1}, api.Event{Kind: api.EvRise})
 	check(t, w, from+4, api.Note{Kind: api.NtRise, Vector: of(1), Epoch: 2})
+}
+
+// What the server refuses it has not written.
+func TestStale(t *testing.T) {
+	w := ready(t, 1)
+	do(t, w, command(1, rect(1)), tick(1), api.Event{Kind: api.EvFall}, api.Event{Kind: api.EvRise})
+	from := len(w.Notes())
+	for range 2 {
+		if out := w.Do(take(0)); out[0].Err != api.ErrStale {
+			t.Errorf("of the epoch that was: %v", out)
+		}
+	}
+	check(t, w, from)
+}
+
+// P28.2: what waits already is not written again, when the server falls by a frame that has it, too.
+func TestFallWritingAgain(t *testing.T) {
+	w := ready(t, 1)
+	do(t, w, command(1, rect(0)), tick(1), take(0), take(0), command(1, rect(1)), tick(1), take(0), api.Event{Kind: api.EvArm, N: 1})
+	from := len(w.Notes())
+	if out := w.Do(take(0)); out[0].Err != api.ErrDown {
+		t.Fatalf("it does not fall: %v", out)
+	}
+	check(t, w, from, api.Note{Kind: api.NtWrite, Op: with(rect(1), id(2, 1, 2))}, api.Note{Kind: api.NtFall})
+}
+
+// P28.2: of a frame of several operations those are taken that it had not.
+func TestTakesSeveral(t *testing.T) {
+	w := ready(t, 2)
+	var want []api.Note
+	for i := range 3 {
+		do(t, w, command(1, rect(i)))
+		want = append(want, api.Note{Kind: api.NtTake, Site: 2, Op: with(rect(i), id(uint64(i+1), 1, uint64(i+1)))})
+	}
+	do(t, w, tick(2), tick(1))
+	all(t, w)
+	do(t, w, tick(0), tick(0)) // the same operations to 2, twice
+	from := len(w.Notes())
+	for len(w.Net().Parcels) > 0 {
+		at, ok := net.First(w.Net(), 2)
+		if !ok {
+			break
+		}
+		do(t, w, take(at))
+	}
+	acked := api.Note{Kind: api.NtAck, Site: 2, Vector: of(3)}
+	check(t, w, from, slices.Concat([]api.Note{acked}, want, []api.Note{acked})...)
 }
 
 // drawn is an event that may happen to a world.
