@@ -160,6 +160,16 @@ func TestPropose(t *testing.T) {
 	}
 }
 
+// P18.3: of a log in which operations of one site have one Time.
+func TestProposeOneTime(t *testing.T) {
+	f, l := two(t), api.Log{Ops: []api.Op{rect(3, 1, 1), rect(5, 1, 2), rect(5, 1, 3)}}
+	for above, want := range map[int]uint64{0: 5, 1: 5, 2: 3} {
+		if got, e := frontier.Propose(f, l, above); e != api.OK || got.Proposed != want {
+			t.Errorf("Propose(%d): %d %d", above, got.Proposed, e)
+		}
+	}
+}
+
 // P18.4
 func TestHear(t *testing.T) {
 	f := heard(t, two(t), 1, 5, 2, of(2, 1))

@@ -45,10 +45,11 @@ func ends(l api.Log) (lasts, api.Errno) {
 	}
 	ahead := api.Id{}
 	for _, o := range l.Ops {
-		if op.Check(o) != api.OK || !ident.Less(ahead, o.Id) {
+		if op.Check(o) != api.OK || !ident.Less(ahead, o.Id) || o.Id.Time <= l.Folded {
 			return lasts{}, api.ErrLog
 		}
-		if at := last[o.Id.Site]; o.Id.Seq != at.Seq+1 || o.Id.Time <= at.Time {
+		// A site's Times don't have to rise: of one Time its ids rise by their Seqs.
+		if o.Id.Seq != last[o.Id.Site].Seq+1 {
 			return lasts{}, api.ErrLog
 		}
 		ahead, last[o.Id.Site] = o.Id, o.Id

@@ -66,7 +66,12 @@ func bad() map[string]api.Log {
 		"a gap":           {Ops: []api.Op{rect(5, 1, 1), rect(6, 1, 3)}},
 		"in the base":     {Base: of(1), Ops: []api.Op{rect(5, 1, 1)}},
 		"folded":          {Folded: 5, Ops: []api.Op{rect(5, 1, 1)}},
-		"one time":        {Ops: []api.Op{rect(5, 1, 1), rect(5, 1, 2)}},
+		"earlier":         {Ops: []api.Op{rect(5, 1, 1), rect(4, 1, 2)}},
+		"turned round":    {Ops: []api.Op{rect(5, 1, 2), rect(5, 1, 1)}},
+		"Seqs that fall":  {Ops: []api.Op{rect(5, 1, 2), rect(6, 1, 1)}},
+		"a gap of a Time": {Ops: []api.Op{rect(5, 1, 1), rect(5, 1, 3)}},
+		"sites of a Time": {Ops: []api.Op{rect(5, 1, 1), rect(5, 2, 1), rect(5, 1, 2)}},
+		"a folded Time":   {Folded: 5, Ops: []api.Op{rect(5, 1, 1), rect(5, 1, 2)}},
 		"kind":            {Ops: []api.Op{{Id: id(1, 1, 1), Kind: 9}}},
 	}
 }
@@ -101,6 +106,69 @@ func TestSame(t *testing.T) {
 		if f(&b); oplog.Same(a, b) || oplog.Same(b, a) {
 			t.Errorf("Same with another %s", name)
 		}
+	}
+}
+
+// oneTime is a log in which two sites have several operations of one Time each.
+func oneTime() api.Log {
+	return api.Log{Folded: 9, Base: of(4), Ops: []api.Op{rect(10, 1, 5), rect(10, 1, 6), rect(10, 2, 1), rect(10, 2, 2), rect(11, 1, 7)}}
+}
+
+// P14.1, P14.2: of one site and one Time ids rise by their Seqs.
+func TestOneTime(t *testing.T) {
+	last := api.Log{Folded: most - 1, Base: of(most - 2), Ops: []api.Op{rect(most, 1, most-1), rect(most, 1, most)}}
+	for _, x := range []struct {
+		l    api.Log
+		want api.Vector
+	}{{api.Log{Ops: []api.Op{rect(10, 1, 1), rect(10, 1, 2)}}, of(2)}, {oneTime(), of(7, 2)}, {last, of(most)}} {
+		if e := oplog.Check(x.l); e != api.OK || oplog.Vector(x.l) != x.want {
+			t.Errorf("Check: %d, Vector: %v", e, oplog.Vector(x.l))
+		}
+	}
+}
+
+// P14.3: what is inserted has to have a Time above its site's last one all the same.
+func TestInsertOneTime(t *testing.T) {
+	l := oneTime()
+	for _, x := range []struct {
+		o  api.Op
+		at int
+		e  api.Errno
+	}{
+		{rect(10, 2, 3), 0, api.ErrBehind}, {rect(11, 1, 8), 0, api.ErrBehind}, {rect(9, 3, 1), 0, api.ErrBehind}, {rect(10, 2, 2), 0, api.ErrThere}, {rect(12, 1, 6), 0, api.ErrThere}, {rect(10, 2, 4), 0, api.ErrGap},
+		{rect(11, 2, 3), 5, api.OK}, {rect(12, 1, 8), 5, api.OK}, {rect(10, 3, 1), 4, api.OK},
+	} {
+		got, at, e := oplog.Insert(l, x.o)
+		if e != x.e || at != x.at || e == api.OK && (oplog.Check(got) != api.OK || len(got.Ops) != 6 || !op.Same(got.Ops[at], x.o)) {
+			t.Errorf("Insert(%v): %d %d", x.o.Id, at, e)
+		}
+	}
+	got, es := oplog.Inserts(l, rect(10, 2, 3), rect(11, 2, 3), rect(11, 2, 4))
+	if !slices.Equal(es, []api.Errno{api.ErrBehind, api.OK, api.ErrBehind}) || oplog.Vector(got) != of(7, 3) {
+		t.Errorf("Inserts: %v", es)
+	}
+}
+
+// P14.4, P14.5, P14.6
+func TestLookOneTime(t *testing.T) {
+	l := oneTime()
+	for at, o := range l.Ops {
+		if got, n, e := oplog.At(l, o.Id); e != api.OK || n != at || !op.Same(got, o) {
+			t.Errorf("At(%v): %d %d", o.Id, n, e)
+		}
+		if got := ids(oplog.Above(l, o.Id)); !slices.Equal(got, ids(l.Ops[at+1:])) {
+			t.Errorf("Above(%v): %v", o.Id, got)
+		}
+	}
+	if got, e := oplog.Missing(l, of(5, 1), 2); e != api.OK || !slices.Equal(ids(got), []api.Id{id(10, 1, 6), id(10, 2, 2)}) {
+		t.Errorf("Missing: %v %d", ids(got), e)
+	}
+	if got := ids(oplog.Own(l, 1, 5)); !slices.Equal(got, []api.Id{id(10, 1, 6), id(11, 1, 7)}) {
+		t.Errorf("Own: %v", got)
+	}
+	left, folded, e := oplog.Fold(l, 10)
+	if e != api.OK || !slices.Equal(ids(folded), ids(l.Ops[:4])) || !oplog.Same(left, api.Log{Folded: 10, Base: of(6, 2), Ops: l.Ops[4:]}) {
+		t.Errorf("Fold: %v %v %d", ids(folded), left, e)
 	}
 }
 

@@ -99,6 +99,33 @@ func TestNew(t *testing.T) {
 	}
 }
 
+// P17.1, P17.2, P17.3: of a log in which many operations of one site have one Time.
+func TestOneTime(t *testing.T) {
+	var l api.Log
+	for seq := range uint64(3 * api.EveryMark) {
+		l.Ops = append(l.Ops, dot(id(10, 2, seq+1), api.Color{R: byte(seq), A: 255}))
+	}
+	last := l.Ops[len(l.Ops)-1]
+	v := view(t, blank(t), l)
+	check(t, v)
+	if corner(v.Show()) != last.Color || !oplog.Same(v.Log(), l) {
+		t.Errorf("New: %v", corner(v.Show()))
+	}
+	// One that comes late, below them all; one of that Time, behind them; and one of their site.
+	late, behind := dot(id(9, 1, 1), blue), of(id(11, 3, 1), api.OpUndo, last.Id)
+	if got := v.Insert(late, behind, dot(id(10, 2, last.Id.Seq+1), red)); !slices.Equal(got, []api.Errno{api.OK, api.OK, api.ErrBehind}) {
+		t.Errorf("Insert: %v", got)
+	}
+	check(t, v)
+	if corner(v.Show()).R != last.Color.R-1 {
+		t.Errorf("undone: %v", corner(v.Show()))
+	}
+	if e := v.Fold(10); e != api.OK || len(v.Log().Ops) != 1 || v.Vector()[2] != last.Id.Seq || corner(v.Base()).R != last.Color.R-1 {
+		t.Errorf("Fold: %d", e)
+	}
+	check(t, v)
+}
+
 // P17.2
 func TestInsert(t *testing.T) {
 	v := view(t, blank(t), oplog.New())

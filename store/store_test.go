@@ -165,6 +165,33 @@ func TestApply(t *testing.T) {
 	}
 }
 
+// P24.1, P24.2, P24.5, P24.6: of what is kept with a log in which operations of one site have one Time.
+func TestOneTime(t *testing.T) {
+	d, k := format(t)
+	k = apply(t, k, a)
+	k.Log.Ops = []api.Op{rect(10, 1, 1), rect(10, 1, 2)}
+	if e := store.Check(k); e != api.OK {
+		t.Errorf("Check: %d", e)
+	}
+	if _, n, e := store.Apply(k, take(rect(10, 1, 3))); e != api.ErrBehind || n != 0 {
+		t.Errorf("Apply: %d %d", n, e)
+	}
+	got := apply(t, k, take(rect(11, 1, 3)), fold(10, of(2)))
+	if got.Log.Folded != 10 || got.Log.Base != of(2) || len(got.Log.Ops) != 1 || got.By != of(2) || got.Canvas.Tiles[0][0].R != 10 {
+		t.Errorf("Apply: %v", got.Log)
+	}
+	saved, e := store.Save(d, k)
+	if e != api.OK || disk.Head(saved) != 1 || len(saved.Files[3]) == 0 {
+		t.Errorf("Save: %d", e)
+	}
+	// A fact is applied as its operation is inserted, and the second one of a Time can't be: that goes for what was saved, too.
+	for name, x := range map[string]api.Disk{"saved": saved, "laid": lay(t, d, a, take(k.Log.Ops[0]), take(k.Log.Ops[1]))} {
+		if opened, n, e := store.Open(x); e != api.ErrStore || n != 0 || !store.Same(opened, api.Kept{}) {
+			t.Errorf("Open of what was %s: %d %d", name, n, e)
+		}
+	}
+}
+
 // P24.3
 func TestFormat(t *testing.T) {
 	for _, s := range [][2]int{{0, 1}, {1, 5}, {-1, 1}} {

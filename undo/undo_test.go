@@ -216,6 +216,33 @@ func TestFold(t *testing.T) {
 	}
 }
 
+// P15.1, P15.2, P15.3, P15.4: of a log in which operations of one site have one Time.
+func TestOneTime(t *testing.T) {
+	first, second := dot(id(10, 1, 1), red), dot(id(10, 1, 2), blue)
+	l := api.Log{Ops: []api.Op{first, second}}
+	if !slices.Equal(ids(undo.Showing(l)), []api.Id{first.Id, second.Id}) || undo.Hidden(l) != nil || !undo.Shows(l, second.Id) {
+		t.Errorf("Showing: %v", ids(undo.Showing(l)))
+	}
+	undone := of(id(11, 2, 1), api.OpUndo, second.Id)
+	if got, ok := undo.From(l, undone); !ok || got != second.Id {
+		t.Errorf("From: %v %t", got, ok)
+	}
+	base := blank(t)
+	if got, e := undo.Upto(base, l, first.Id, second.Id); e != api.OK || corner(got[0]) != red || corner(got[1]) != blue {
+		t.Errorf("Upto: %d", e)
+	}
+	l.Ops = append(l.Ops, undone)
+	if by, ok := undo.Decides(l, second.Id); !ok || by != undone.Id {
+		t.Errorf("Decides: %v %t", by, ok)
+	}
+	if got, e := undo.Paint(base, l); e != api.OK || corner(got) != red {
+		t.Errorf("Paint: %d", e)
+	}
+	if got, left, e := undo.Fold(base, l, 10); e != api.OK || corner(got) != red || left.Base != (api.Vector{1: 2}) || !slices.Equal(ids(left.Ops), []api.Id{undone.Id}) {
+		t.Errorf("Fold: %v %d", left, e)
+	}
+}
+
 // P15.5
 func TestFollows(t *testing.T) {
 	r := rand.New(rand.NewSource(1))
